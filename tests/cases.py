@@ -153,6 +153,77 @@ def pairs_by_hand(table, shares):
             if heir != other and envies_by_hand(table, shares, heir, other)]
 
 
+def pairs_of(heirs):
+    return [(heir, other) for heir in range(heirs) for other in range(heirs) if heir != other]
+
+
+def bears_by_trying(table, shares, heir, other):
+    """Whether there is no envy, or there is one thing without which there would be none."""
+    if not envies_by_hand(table, shares, heir, other):
+        return True
+    own = worth_by_hand(table[heir], shares[heir])
+    return any(worth_by_hand(table[heir], [thing for thing in shares[other] if thing != out]) <= own
+               for out in shares[other])
+
+
+def borne_by_trying(table, shares):
+    return all(bears_by_trying(table, shares, heir, other) for heir, other in pairs_of(len(table)))
+
+
+def turns_of(found):
+    """A ring told from each of its heirs on."""
+    return [found[at:] + found[:at] for at in range(len(found))]
+
+
+def is_ring_by_words(table, shares, heirs):
+    return (len(heirs) >= 2 and len(set(heirs)) == len(heirs)
+            and all(envies_by_hand(table, shares, heir, after) for heir, after in with_next(heirs)))
+
+
+def has_ring_by_hand(table, shares):
+    """Whether some heirs are left when all who envy nobody that is left are taken away."""
+    pairs = pairs_by_hand(table, shares)
+    left = list(range(len(table)))
+    while left:
+        stuck = [heir for heir in left if any((heir, other) in pairs for other in left)]
+        if stuck == left:
+            return True
+        left = stuck
+    return False
+
+
+def turned_by_hand(shares, heirs):
+    wanted = {heir: shares[after] for heir, after in with_next(heirs)}
+    return [list(wanted.get(heir, share)) for heir, share in enumerate(shares)]
+
+
+def least_unenvied(table, shares):
+    envied = [other for _, other in pairs_by_hand(table, shares)]
+    return min(heir for heir in range(len(table)) if heir not in envied)
+
+
+def given_by_hand(shares, heir, thing):
+    return with_item(shares, heir, sorted(shares[heir] + [thing]))
+
+
+def things_aside(table, shares):
+    held = [thing for share in shares for thing in share]
+    return [thing for thing in range(len(table[0])) if thing not in held]
+
+
+def given_to_one_mind(row, shares, thing):
+    """Where all have the same worths there is no ring, and the poorest share is the one not envied."""
+    come = [worth_by_hand(row, share) for share in shares]
+    return given_by_hand(shares, come.index(min(come)), thing)
+
+
+def given_to_two(table, shares, thing):
+    """Among two heirs there is one ring at most: both envy, and swap."""
+    if has_ring_by_hand(table, shares):
+        shares = shares[::-1]
+    return given_by_hand(shares, least_unenvied(table, shares), thing)
+
+
 GOOD_TABLE = [[5, 0, 1000000], [1, 2, 3], [0, 0, 0]]
 GOOD_SHARES = [[2], [0, 1], []]
 

@@ -7,29 +7,12 @@ from refusals import RefusalCase
 from thingdeal.envy import borne, envies, spare
 
 
-def pairs_of(heirs):
-    return [(heir, other) for heir in range(heirs) for other in range(heirs) if heir != other]
-
-
 def spare_by_hand(table, shares, heir, other):
     """Of the dearest things of the other's share the least number, or None."""
     if not cases.envies_by_hand(table, shares, heir, other):
         return None
     most = max(table[heir][thing] for thing in shares[other])
     return min(thing for thing in shares[other] if table[heir][thing] == most)
-
-
-def bears_by_trying(table, shares, heir, other):
-    """Whether there is no envy, or there is one thing without which there would be none."""
-    if not cases.envies_by_hand(table, shares, heir, other):
-        return True
-    own = cases.worth_by_hand(table[heir], shares[heir])
-    return any(cases.worth_by_hand(table[heir], [thing for thing in shares[other] if thing != out]) <= own
-               for out in shares[other])
-
-
-def borne_by_trying(table, shares):
-    return all(bears_by_trying(table, shares, heir, other) for heir, other in pairs_of(len(table)))
 
 
 class EnviesTest(unittest.TestCase):
@@ -44,7 +27,7 @@ class EnviesTest(unittest.TestCase):
         for heirs in range(2, 9):
             # Each heir has what only the others want.
             table = [[0 if thing == heir else 1 for thing in range(heirs)] for heir in range(heirs)]
-            self.assertEqual(envies(table, [[heir] for heir in range(heirs)]), pairs_of(heirs))
+            self.assertEqual(envies(table, [[heir] for heir in range(heirs)]), cases.pairs_of(heirs))
 
     def test_examples(self):
         self.assertEqual(envies([[5, 3], [5, 3]], [[0], [1]]), [(1, 0)])
@@ -74,7 +57,7 @@ class EnviesTest(unittest.TestCase):
 class SpareTest(unittest.TestCase):
     def test_each_two_heirs_against_sums(self):
         for table, shares in cases.all_cases():
-            for heir, other in pairs_of(len(table)):
+            for heir, other in cases.pairs_of(len(table)):
                 told = spare(table, shares, heir, other)
                 self.assertEqual(told, spare_by_hand(table, shares, heir, other))
                 self.assertIn(type(told), (int, type(None)))
@@ -109,7 +92,7 @@ class BorneTest(unittest.TestCase):
         told = {True: 0, False: 0}
         for table, shares in cases.all_cases():
             answer = borne(table, shares)
-            self.assertIs(answer, borne_by_trying(table, shares))
+            self.assertIs(answer, cases.borne_by_trying(table, shares))
             told[answer] += 1
         self.assertGreater(min(told.values()), 50)
 
@@ -132,7 +115,7 @@ class BorneTest(unittest.TestCase):
 
     def test_each_heir_must_bear_each_other_one(self):
         for heirs in range(2, 9):
-            for heir, other in pairs_of(heirs):
+            for heir, other in cases.pairs_of(heirs):
                 # Only this one wants what only that one has.
                 table = cases.with_item([[0, 0]] * heirs, heir, [1, 1])
                 shares = cases.with_item([[]] * heirs, other, [0, 1])
@@ -201,7 +184,7 @@ class EnvyHandedInTest(unittest.TestCase):
             for call in [envies, borne]:
                 _, same = cases.same_before_and_after(call, table, shares)
                 self.assertTrue(same)
-            for heir, other in pairs_of(len(table)):
+            for heir, other in cases.pairs_of(len(table)):
                 _, same = cases.same_before_and_after(spare, table, shares, heir, other)
                 self.assertTrue(same)
 

@@ -10,21 +10,11 @@ from refusals import RefusalCase
 from thingdeal.rings import line, ring, turned
 
 
-def turns_of(found):
-    """A ring told from each of its heirs on."""
-    return [found[at:] + found[:at] for at in range(len(found))]
-
-
-def is_ring_by_words(table, shares, heirs):
-    return (len(heirs) >= 2 and len(set(heirs)) == len(heirs)
-            and all(cases.envies_by_hand(table, shares, heir, after) for heir, after in cases.with_next(heirs)))
-
-
 class FoundTest(unittest.TestCase):
     def check_ring(self, table, shares, found):
         self.assertIs(type(found), list)
         self.assertTrue(all(type(heir) is int and 0 <= heir < len(table) for heir in found))
-        self.assertTrue(is_ring_by_words(table, shares, found), (table, shares, found))
+        self.assertTrue(cases.is_ring_by_words(table, shares, found), (table, shares, found))
 
     def check_line(self, table, shares, found):
         self.assertIs(type(found), list)
@@ -65,20 +55,20 @@ class FoundTest(unittest.TestCase):
             table, shares = cases.ring_case(put_in, heirs)
             found = ring(table, shares)
             # It is the only one, and may be told from any of its heirs on.
-            self.assertIn(found, turns_of(put_in))
+            self.assertIn(found, cases.turns_of(put_in))
             self.assertIsNone(line(table, shares))
 
     def test_one_of_two_rings_is_found(self):
         table, shares = cases.ring_case([0, 3, 5], 8)
         table[6][2], table[2][6] = 2, 2
-        self.assertIn(ring(table, shares), turns_of([0, 3, 5]) + turns_of([2, 6]))
+        self.assertIn(ring(table, shares), cases.turns_of([0, 3, 5]) + cases.turns_of([2, 6]))
 
     def test_a_ring_behind_and_ahead_of_heirs_that_stand_in_none(self):
         table, shares = cases.ring_case([2, 4], 6)
         # 0 and 1 envy the ring, and the ring envies 3 and 5.
         for heir, other in [(0, 2), (1, 0), (1, 4), (2, 3), (4, 5), (3, 5)]:
             table[heir][other] = 2
-        self.assertIn(ring(table, shares), turns_of([2, 4]))
+        self.assertIn(ring(table, shares), cases.turns_of([2, 4]))
         self.assertIsNone(line(table, shares))
 
     def test_the_only_line_is_found(self):
@@ -118,14 +108,14 @@ class TurnedTest(unittest.TestCase):
     def test_rings_that_were_put_in_from_each_of_their_heirs_on(self):
         for put_in, heirs in cases.put_in_rings():
             table, shares = cases.ring_case(put_in, heirs)
-            for heirs_of_ring in turns_of(put_in):
+            for heirs_of_ring in cases.turns_of(put_in):
                 self.check_turned(table, shares, heirs_of_ring)
 
     def test_rings_that_were_told(self):
         tried = 0
         for table, shares in cases.all_cases():
             found = ring(table, shares)
-            for heirs in turns_of(found or []):
+            for heirs in cases.turns_of(found or []):
                 self.check_turned(table, shares, heirs)
                 tried += 1
         self.assertGreater(tried, 100)
@@ -139,7 +129,7 @@ class TurnedTest(unittest.TestCase):
                 shares = cases.some_shares(chance, 4, 7, 1)
                 for many in range(5):
                     for heirs in itertools.permutations(range(4), many):
-                        if is_ring_by_words(table, shares, list(heirs)):
+                        if cases.is_ring_by_words(table, shares, list(heirs)):
                             self.check_turned(table, shares, list(heirs))
                         else:
                             with self.assertRaises(ValueError):

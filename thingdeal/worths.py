@@ -33,19 +33,30 @@ def need_table(table):
             raise BadTable("each row has as many worths as the others")
 
 
-def need_shares(table, shares):
-    """Refuse what is no table, then what are no shares of its things."""
-    need_table(table)
-    if type(shares) is not list or len(shares) != len(table):
-        raise BadShares("shares are a list with one share for each heir")
+def need_worths(worths, many):
+    """Refuse what is no list of so many worths, a row or a column that a table could get."""
+    if not is_list_below(worths, MOST_WORTH + 1) or len(worths) != many:
+        raise BadTable("worths are a list of as many whole numbers from 0 to 1000000 as are asked for")
+
+
+def need_parted(shares, many):
+    """Refuse a list of shares, of however many heirs, that are no shares of so many things."""
     for share in shares:
-        if not is_list_below(share, len(table[0])):
+        if not is_list_below(share, many):
             raise BadShares("a share is a list of numbers of things")
         if share != sorted(share):
             raise BadShares("the things of a share stand rising")
     held = [thing for share in shares for thing in share]
     if len(set(held)) != len(held):
         raise BadShares("a thing stands in one share at most, and once")
+
+
+def need_shares(table, shares):
+    """Refuse what is no table, then what are no shares of its things."""
+    need_table(table)
+    if type(shares) is not list or len(shares) != len(table):
+        raise BadShares("shares are a list with one share for each heir")
+    need_parted(shares, len(table[0]))
 
 
 def need_heir(table, heir):
